@@ -17,7 +17,7 @@ func quiet[H prim.Heap](t *testing.T, m *Machine[H]) {
 	t.Helper()
 	for range 2 {
 		sizes, fault := m.Needs()
-		if m.Step() || len(sizes) > 0 || fault != fine || len(m.Roots()) > 0 {
+		if m.Step() || len(sizes) > 0 || fault != fine || len(m.Roots()) > 0 || m.Running() || m.Steps() != 0 {
 			t.Errorf("rule 1: a machine that there is not: %v, %v, %v", sizes, fault, m.Roots())
 		}
 		tells(t, "rule 1", m.Outcome(), api.Outcome{})

@@ -484,6 +484,9 @@ func (x both) step(t testing.TB, s *simple, met map[int]int) {
 	}
 	tells(t, "P2209: the arena", x.arena.Outcome(), s.out)
 	tells(t, "P2209: the graph", x.graph.Outcome(), s.out)
+	if x.arena.Steps() != s.out.Steps || x.arena.Running() != (s.out.End == api.Running) {
+		t.Fatalf("Steps, Running: %d, %v of %+v", x.arena.Steps(), x.arena.Running(), s.out)
+	}
 }
 
 // Programs of all sorts: what the chapter says step by step, over both sorts of heaps.
