@@ -72,7 +72,7 @@ func TestP2301Rejected(t *testing.T) {
 	long, short := make([]int, api.MaxForce+1), make([]int, api.MaxForce)
 	pokes, fewer := make([]api.Poke, api.MaxPokes+1), make([]api.Poke, api.MaxPokes)
 	good := scripted(t, five(), 2, 9).Program
-	under := scripted(t, program(fn(0, 0, 0, op(api.OpFix), op(api.OpHalt)), fn(0, 0, 0, op(api.OpFix), op(api.OpHalt)), fn(0, 0, 0, op(api.OpFix), op(api.OpPop), op(api.OpPop), op(api.OpHalt))), 2, 9).Program
+	under := scripted(t, program(fn(0, 0, 0, op(api.OpFix), op(api.OpHalt)), fn(0, 0, 0, op(api.OpFix), op(api.OpHalt)), fn(0, 0, 0, op(api.OpFix), op(api.OpDup), op(api.OpPop), op(api.OpPop), op(api.OpPop), op(api.OpHalt))), 2, 9).Program
 	main := scripted(t, program(fn(1, 1, 0, op(api.OpPop))), 2, 9).Program
 	for i, x := range []struct {
 		s    api.Script
@@ -98,7 +98,7 @@ func TestP2301Rejected(t *testing.T) {
 		{api.Script{Program: append(slices.Clone(under), 0), Pages: 2, Fuel: 9}, refusal(api.ErrBytes, len(under), 0)},
 		{api.Script{Program: make([]byte, api.MaxProgram+1), Pages: 2, Fuel: 9}, refusal(api.ErrLong, 0, 0)},
 		{api.Script{Program: make([]byte, api.MaxProgram), Pages: 2, Fuel: 9}, refusal(api.ErrBytes, 0, 0)},
-		{api.Script{Program: under, Pages: 2, Fuel: 9}, refusal(api.ErrUnder, 2, 2)},
+		{api.Script{Program: under, Pages: 2, Fuel: 9}, refusal(api.ErrUnder, 2, 4)},
 		{api.Script{Program: main, Pages: 1, Fuel: 9}, refusal(api.ErrMain, 0, 0)}, // ahead of its room
 		{api.Script{}, refusal(api.ErrArg, 0, 0)},
 	} {
