@@ -100,8 +100,10 @@ func fresh(kind, parts, tag int) *node {
 // tell is the node with an Id as a graph has it.
 func (n *node) tell(id int) api.Node {
 	out := api.Node{Id: id, Kind: n.kind, Raw: slices.Clone(n.raw), Fields: slices.Clone(n.fields)}
-	for _, k := range slices.SortedFunc(maps.Keys(n.entries), order) {
-		out.Entries = append(out.Entries, api.Entry{Key: k, Value: n.entries[k]})
+	if len(n.entries) > 0 { // most nodes are no tables
+		for _, k := range slices.SortedFunc(maps.Keys(n.entries), order) {
+			out.Entries = append(out.Entries, api.Entry{Key: k, Value: n.entries[k]})
+		}
 	}
 	return out
 }

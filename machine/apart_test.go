@@ -21,6 +21,7 @@ func quiet[H prim.Heap](t *testing.T, m *Machine[H]) {
 			t.Errorf("rule 1: a machine that there is not: %v, %v, %v", sizes, fault, m.Roots())
 		}
 		tells(t, "rule 1", m.Outcome(), api.Outcome{})
+		tells(t, "rule 1", m.Since(1, 1), api.Outcome{})
 		m.Collected()
 		m.Stop(api.Corrupt, 7)
 		m.Stop(api.OutOfFuel, 0)

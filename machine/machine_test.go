@@ -595,3 +595,27 @@ func TestP2208Roots(t *testing.T) {
 		}
 	})
 }
+
+// Since leaves out what came first of the log and of the collections, and is new memory.
+func TestSince(t *testing.T) {
+	m := started(t, graph.New(), plainly(op(api.OpFix, 7), op(api.OpOut), op(api.OpPop), op(api.OpFix, 8), op(api.OpOut), op(api.OpPop), op(api.OpJump, 0)), 2)
+	m.Collected()
+	for range 3 {
+		m.Step()
+	}
+	m.Collected()
+	m.Collected()
+	for texts, log := range [][]string{{"7", "8"}, {"8"}, {}, {}} {
+		for n, collections := range [][]int{{2, 5, 5}, {5, 5}, {5}, {}, {}} {
+			tells(t, "Since", m.Since(texts, n), api.Outcome{Steps: 5, Log: log, Collections: collections})
+		}
+	}
+	for _, n := range []int{least, -1, 0} {
+		tells(t, "Since", m.Since(n, n), m.Outcome())
+	}
+	tells(t, "Since", m.Since(most, most), api.Outcome{Steps: 5})
+	o := m.Since(1, 1)
+	o.Log[0], o.Collections[0] = "x", 9
+	_, _ = append(m.Since(0, 0).Log[:1], "x"), append(m.Since(2, 3).Collections, 9)
+	tells(t, "rule 3: Since", m.Outcome(), api.Outcome{Steps: 5, Log: []string{"7", "8"}, Collections: []int{2, 5, 5}})
+}

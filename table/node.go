@@ -101,9 +101,10 @@ func (l *look) fields(b api.Block) []api.Value {
 	if b.Kind == api.KindTable {
 		return nil
 	}
-	var out []api.Value
-	for _, i := range layout.Fields(b.Kind, b.Size) {
-		out = append(out, l.get(value.Ref(b.At), i))
+	words := layout.Fields(b.Kind, b.Size)
+	out := make([]api.Value, len(words))
+	for i, word := range words {
+		out[i] = l.get(value.Ref(b.At), word)
 	}
 	return out
 }
