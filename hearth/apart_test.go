@@ -156,10 +156,10 @@ func TestRule1GreatTexts(t *testing.T) {
 		plays(t, "rule 1", fill(five+"pages 2\n", "value p\n", "", 100000), strings.Repeat("5\n", 99995))
 		plays(t, "rule 1", fill(five, "list q\n", "", 100000), strings.Repeat("error 100\n", 99996))
 		// A long program that is asked for again and again is not assembled each time.
-		long := fill("program p\n|func 0 0 0\n|fix 5\n|return;", "x", "\n", 1<<19)[:1<<19] + "\n"
-		plays(t, "rule 1", fill(long, "code p\n", "", 70000), strings.Repeat("bytes 14 6874680100000100000002010a13\n", 69996))
-		wrong := fill("program p\n|func 0 0 0\n|fix 5\n|x;", "x", "\n", 1<<19)[:1<<19] + "\n"
-		plays(t, "rule 1", fill(wrong, "run p\n", "", 70000), strings.Repeat("line 3\n", 69996))
+		long := named("p", append(split("func 0 0 0;fix 5;return"), make([]string, 40000)...)...)
+		plays(t, "rule 1", fill(long, "code p\n", "", 90000), strings.Repeat("bytes 14 6874680100000100000002010a13\n", 90000-40004))
+		wrong := named("p", append(split("func 0 0 0;fix 5;x"), make([]string, 40000)...)...)
+		plays(t, "rule 1", fill(wrong, "run p\n", "", 90000), strings.Repeat("line 3\n", 90000-40004))
 	})
 }
 

@@ -306,6 +306,77 @@ func TestP2603Unlike(t *testing.T) {
 	}
 }
 
+// A corruption that together would leave out parts the two: at the end alone, or by the report alone.
+func TestP2603UnlikeByACorruption(t *testing.T) {
+	const pairHeader, weakCar, broken = 128, 133, 4<<3 | 2
+	row := rowOf(t, "p", weak)
+	for _, x := range []struct {
+		poke api.Poke
+		told string
+	}{
+		{api.Poke{Step: 99}, "same 8\n"},
+		{api.Poke{Step: 5, At: pairHeader}, "unlike 5\n"},
+		{api.Poke{Step: 5, At: weakCar, Word: broken}, "unlike 6\n"},
+		{api.Poke{Step: 4, At: weakCar, Word: broken}, "same 8\n"},
+	} {
+		p := pair{arena: vm.New(api.Script{Program: row, Pages: 9, Fuel: 99, Force: []int{5}, Pokes: []api.Poke{x.poke}}), graph: model.New(row)}
+		if told := p.play(); told != x.told {
+			t.Errorf("P2603: %+v: %q, want %q", x.poke, told, x.told)
+		}
+	}
+}
+
+// Two outcomes are one if all their parts are.
+func TestP2603OneOutcome(t *testing.T) {
+	whole := func() api.Outcome {
+		return api.Outcome{End: 1, Err: 2, N: 3, At: 4, Value: "5", Steps: 6, Log: []string{"7", "8"}, Collections: []int{9, 10}}
+	}
+	for i, turn := range []func(*api.Outcome){
+		func(o *api.Outcome) { o.End++ }, func(o *api.Outcome) { o.Err++ }, func(o *api.Outcome) { o.N++ }, func(o *api.Outcome) { o.At++ }, func(o *api.Outcome) { o.Value += " " }, func(o *api.Outcome) { o.Steps++ },
+		func(o *api.Outcome) { o.Log[1] = "7" }, func(o *api.Outcome) { o.Log = o.Log[:1] }, func(o *api.Outcome) { o.Log = nil },
+		func(o *api.Outcome) { o.Collections[0]++ }, func(o *api.Outcome) { o.Collections = o.Collections[1:] }, func(o *api.Outcome) { o.Collections = append(o.Collections, 11) },
+	} {
+		a, b := whole(), whole()
+		if !sameOutcome(a, b) {
+			t.Errorf("P2603: %+v is not itself", a)
+		}
+		turn(&b)
+		if sameOutcome(a, b) || sameOutcome(b, a) {
+			t.Errorf("P2603: turn %d: %+v is %+v", i, a, b)
+		}
+	}
+}
+
+// Two graphs are one if all their parts are; no list and an empty one mean the same.
+func TestP2603OneGraph(t *testing.T) {
+	one, two := api.Value{Kind: 1, N: 1}, api.Value{Kind: 2, N: 2}
+	whole := func() api.Graph {
+		return api.Graph{Roots: []api.Value{one, two}, Nodes: []api.Node{
+			{Id: 1, Kind: 1, Fields: []api.Value{one, two}},
+			{Id: 2, Kind: 4, Raw: []int{1, 2}},
+			{Id: 4, Kind: 10, Entries: []api.Entry{{Key: one, Value: two}, {Key: two, Value: one}}},
+		}}
+	}
+	for i, turn := range []func(*api.Graph){
+		func(g *api.Graph) { g.Roots[1].N++ }, func(g *api.Graph) { g.Roots[1].Kind++ }, func(g *api.Graph) { g.Roots = g.Roots[:1] },
+		func(g *api.Graph) { g.Nodes = g.Nodes[:2] }, func(g *api.Graph) { g.Nodes[0], g.Nodes[1] = g.Nodes[1], g.Nodes[0] },
+		func(g *api.Graph) { g.Nodes[2].Id-- }, func(g *api.Graph) { g.Nodes[2].Kind-- },
+		func(g *api.Graph) { g.Nodes[1].Raw[1]++ }, func(g *api.Graph) { g.Nodes[1].Raw = nil },
+		func(g *api.Graph) { g.Nodes[0].Fields[0].N++ }, func(g *api.Graph) { g.Nodes[0].Fields = g.Nodes[0].Fields[:1] },
+		func(g *api.Graph) { g.Nodes[2].Entries[1].Key = one }, func(g *api.Graph) { g.Nodes[2].Entries[0].Value = one }, func(g *api.Graph) { g.Nodes[2].Entries = nil },
+	} {
+		a, b := whole(), whole()
+		b.Nodes[1].Fields, b.Nodes[1].Entries, b.Nodes[0].Raw = []api.Value{}, []api.Entry{}, []int{}
+		if !sameGraph(a, b) {
+			t.Errorf("P2603: %+v is not itself", a)
+		}
+		turn(&b)
+		if sameGraph(a, b) || sameGraph(b, a) {
+			t.Errorf("P2603: turn %d: %+v is %+v", i, a, b)
+		}
+	}
+}
+
 // A model that has gone on by itself has parted at once.
 func TestP2603UnlikeAtOnce(t *testing.T) {
 	row := rowOf(t, "p", weak)
